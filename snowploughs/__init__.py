@@ -1,0 +1,1 @@
+"""Streets shared among ploughs."""
