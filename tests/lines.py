@@ -13,12 +13,33 @@ def street(long):
     return [1, long]
 
 
+def streets(*longs):
+    """Several calls, one for each street."""
+    return [street(long) for long in longs]
+
+
 def apart(one, other):
     return [2, one, other]
 
 
 def together(one, other):
     return [3, one, other]
+
+
+def check(*plan):
+    return [4, len(plan), *plan]
+
+
+def best():
+    return [5]
+
+
+def needs(plough, a, b):
+    return [6, plough, a, b]
+
+
+def plain():
+    return [7]
 
 
 def line(*calls):
@@ -38,9 +59,22 @@ def split(told):
     return parts
 
 
+def ask_whole(*calls):
+    """The answers, each as a list."""
+    parts = split(answers(line(*calls)))
+    if len(parts) != len(calls):
+        raise AssertionError(f"not an answer for each call: {parts!r}")
+    return parts
+
+
+def ask_last(*calls):
+    """The whole answer to the last of these calls."""
+    return ask_whole(*calls)[-1]
+
+
 def ask(*calls):
     """The first numbers of the answers; none of these calls answers more than one."""
-    parts = split(answers(line(*calls)))
-    if len(parts) != len(calls) or any(len(part) != 1 for part in parts):
+    parts = ask_whole(*calls)
+    if any(len(part) != 1 for part in parts):
         raise AssertionError(f"not one number for each call: {parts!r}")
     return [part[0] for part in parts]

@@ -4,14 +4,20 @@ import io
 import sys
 import unittest
 
-from lines import MOST, apart, begins, line, street, together
-from snowploughs.service import CallNotBuilt, answers
+from lines import MOST, apart, begins, best, check, line, needs, plain, street, streets, together
+from snowploughs.service import answers
 
 LINE = line(
     begins(5, 6), street(10), street(20), apart(0, 1), together(0, 1), apart(1, 0), street(0), begins(), apart(9, 9),
-    begins(1, 2, 3, 4), street(30), together(2, 2), begins(7), street(MOST), street(40),
+    begins(1, 2, 3, 4), street(30), together(2, 2), check(0, 0, 1), check(1, 0, 1), check(0, 0), best(), needs(0, 1, 1),
+    plain(), begins(7, 3), street(MOST), street(40), check(1), check(0), best(), needs(0, 3, 2), needs(2, 0, 0),
+    plain(),
 )
-TOLD = [1, 0, 1, 0, 1, 1, 1, 0, 1, 0, 1, -4, 1, -1, 1, -1, 1, -2, 1, -1, 1, 2, 1, -4, 1, 0, 1, -1, 1, 0]
+TOLD = [
+    1, 0, 1, 0, 1, 1, 1, 0, 1, 0, 1, -4, 1, -1, 1, -1, 1, -2, 1, -1, 1, 2, 1, -4,
+    3, -6, 0, 1, 3, -7, 0, 1, 1, -1, 1, -6, 1, -6, 6, 0, 20, 3, 1, 0, 1,
+    1, 0, 1, -1, 1, 0, 5, 0, 40, 3, 0, 40, 5, 0, 40, 7, 40, 0, 5, 0, 40, 7, 1, 0, 1, 27, 1, -2, 4, 1, 40, 7, 0,
+]
 
 
 class InterfaceTest(unittest.TestCase):
@@ -20,6 +26,19 @@ class InterfaceTest(unittest.TestCase):
         self.assertEqual(answers([0, 0, 1, 1]), [1, -1, 1, 0])
         self.assertEqual(answers([0, 4, 1, 1, 1, 1, 1, 1]), [1, -1, 1, 0])
         self.assertEqual(answers([1, 1001]), [1, -1])
+        self.assertEqual(answers([0, 2, 4, 6, 1, 10, 1, 9, 4, 2, 1, 0]), [1, 0, 1, 0, 1, 1, 5, 0, 9, 4, 9, 10])
+        self.assertEqual(answers([0, 2, 4, 6, 1, 10, 1, 9, 5]), [1, 0, 1, 0, 1, 1, 6, 0, 9, 4, 1, 1, 0])
+        self.assertEqual(answers([0, 2, 4, 6, 1, 10, 1, 9, 6, 0, 2, 3]), [1, 0, 1, 0, 1, 1, 1, 29])
+        self.assertEqual(answers([0, 2, 4, 6, 1, 10, 1, 9, 7]), [1, 0, 1, 0, 1, 1, 5, 1, 9, 4, 1, 0])
+        self.assertEqual(answers([4, 0, 5, 7, 4, 8, 0, 1, 2, 3, 4, 5, 6, 7, 6, 0, 1, 1, 1, 2]),
+                         [4, 0, 0, 1, 0, 4, 0, 0, 1, 1, 3, 1, 0, 1, 1, -1, 1, 1, 1, 0])
+
+    def test_which_refusals_have_streets_behind_them(self):
+        told = answers(line(begins(5, 6), street(1), street(2), apart(1, 0), check(0, 0), together(0, 1), check(0, 1),
+                            check(0), best(), needs(0, 1, 1), needs(2, 1, 1), needs(0, 0, 1), begins(), street(0),
+                            apart(0, 2), apart(0, 1)))
+        self.assertEqual(told, [1, 0, 1, 0, 1, 1, 1, 0, 3, -6, 1, 0, 1, 0, 3, -7, 0, 1, 1, -1, 1, -6, 1, -6, 1, -2,
+                                1, -1, 1, -1, 1, -1, 1, -2, 1, -4])
 
     def test_for_each_call_a_count_and_the_answer(self):
         self.assertEqual(answers(LINE), TOLD)
@@ -42,9 +61,10 @@ class InterfaceTest(unittest.TestCase):
 
     def test_nothing_is_kept_from_one_time_to_the_next(self):
         first = answers(LINE)
-        answers(line(begins(9, 9, 9), *[street(3)] * 6, apart(0, 1), together(0, 1)))
+        answers(line(begins(9, 9, 9), *[street(3)] * 6, apart(0, 1), together(0, 1), best(), needs(2, 1, 1), plain()))
         self.assertEqual(answers(LINE), first)
         self.assertEqual(answers(line(apart(0, 1), street(5), street(6), apart(0, 1))), [1, -2, 1, 0, 1, 1, 1, 0])
+        self.assertEqual(answers(line(best(), plain(), check())), [4, 0, 0, 1, 1, 3, 1, 0, 1, 4, 0, 0, 1, 0])
 
     def test_what_is_given_back_is_not_kept(self):
         told = answers(LINE)
@@ -54,16 +74,19 @@ class InterfaceTest(unittest.TestCase):
     def test_sixty_calls_of_the_longest(self):
         calls = line(*[begins(1, 2, 3, 4)] * 60)
         self.assertEqual(answers(calls), [1, -1] * 60)
+        calls = line(*[check(0, 1, 2, 3, 4, 5, 6, 7)] * 60)
+        self.assertEqual(answers(calls), [1, -1] * 60)
 
     def test_a_long_line_is_gone_through_by_a_loop(self):
-        calls = line(*[street(0)] * 60)
+        calls = line(begins(1, 1, 1), *streets(*[1] * 6), *[best(), needs(0, 1, 1)] * 4, *[plain()] * 45)
         limit = sys.getrecursionlimit()
         sys.setrecursionlimit(len(inspect.stack()) + 30)
         try:
             told = answers(calls)
         finally:
             sys.setrecursionlimit(limit)
-        self.assertEqual(told, [1, -1] * 60)
+        self.assertEqual(told[:14], [1, 0, 1, 0, 1, 1, 1, 2, 1, 3, 1, 4, 1, 5])
+        self.assertEqual(told[14:], [10, 0, 2, 1, 90, 0, 0, 1, 1, 2, 2, 1, 4] * 4 + [9, 1, 2, 1, 0, 1, 2, 0, 1, 2] * 45)
 
     def test_nothing_is_printed(self):
         out = io.StringIO()
@@ -71,11 +94,6 @@ class InterfaceTest(unittest.TestCase):
         with contextlib.redirect_stdout(out), contextlib.redirect_stderr(err):
             answers(LINE)
         self.assertEqual((out.getvalue(), err.getvalue()), ("", ""))
-
-    def test_calls_that_are_not_built_are_not_answered_wrongly(self):
-        for calls in ([4, 1, 0], [5], [6, 0, 1, 1], [7]):
-            with self.subTest(calls=calls):
-                self.assertRaises(CallNotBuilt, answers, calls)
 
 
 def refuse(*_):

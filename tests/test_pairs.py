@@ -55,7 +55,8 @@ class PairsTest(unittest.TestCase):
     def test_told_already_a_while_ago(self):
         for tell, other_kind in BOTH_KINDS:
             with self.subTest(tell=tell.__name__):
-                told = after_three(tell(0, 1), tell(1, 2), street(9), other_kind(3, 0), tell(0, 2), tell(1, 0), tell(2, 1))
+                told = after_three(tell(0, 1), tell(1, 2), street(9), other_kind(3, 0), tell(0, 2), tell(1, 0),
+                                   tell(2, 1))
                 self.assertEqual(told, [0, 0, 3, 0, 0, -4, -4])
 
     def test_the_other_kind_may_be_told_of_the_same_two(self):
