@@ -14,8 +14,8 @@ OWN_NAMES_OF_PYTHON = {
 }
 METHODS_OF_PYTHON = set(
     "append clear copy count endswith extend find get index insert isalnum isalpha isdigit islower isspace isupper"
-    " items join keys ljust lower lstrip partition pop remove replace reverse rfind rjust rpartition rsplit rstrip setdefault"
-    " split splitlines startswith strip update upper values zfill bit_length".split()
+    " items join keys ljust lower lstrip partition pop remove replace reverse rfind rjust rpartition rsplit rstrip"
+    " setdefault split splitlines startswith strip update upper values zfill bit_length".split()
 )
 FORMS = (
     ast.Module, ast.FunctionDef, ast.ClassDef, ast.arguments, ast.arg, ast.Assign, ast.AugAssign, ast.If, ast.While,
